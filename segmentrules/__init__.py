@@ -1,0 +1,1 @@
+"""Segments of a paragraph, by rules that are handed in."""

@@ -1,0 +1,69 @@
+"""Rows of pieces, and how they are read from their text.
+
+A piece is its kind and its number: a character's, or that of a tag.
+"""
+
+from segmentrules.errors import BeyondBounds, NotPaired
+from segmentrules.reading import DOT, HYPHEN, PLUS, Reader
+
+LEFT_BRACE = 0x7B
+RIGHT_BRACE = 0x7D
+
+# A tag's kind is the byte that tells it in the text.
+CHARACTER = 0
+OPENS = PLUS
+CLOSES = HYPHEN
+ALONE = DOT
+
+LAST_TAG = 999
+MOST_PIECES = 4096
+
+
+def read_piece(reader):
+    """A character or a tag."""
+    if reader.look() != LEFT_BRACE:
+        return CHARACTER, reader.take_character()
+    reader.take([LEFT_BRACE])
+    kind = reader.take([LEFT_BRACE, PLUS, HYPHEN, DOT])
+    if kind == LEFT_BRACE:
+        return CHARACTER, LEFT_BRACE
+    number = reader.take_number([(1, LAST_TAG)])
+    reader.take([RIGHT_BRACE])
+    return kind, number
+
+
+def read_row(text):
+    """The row that has this text, however many pieces it has; a Fault if none has it."""
+    reader = Reader(text)
+    row = []
+    while not reader.ended():
+        row.append(read_piece(reader))
+    return row
+
+
+def is_paired(row):
+    """Whether the row's tags stand in pairs, each number once."""
+    pile = []
+    seen = {}
+    for kind, number in row:
+        if kind == CLOSES:
+            if not pile or pile.pop() != number:
+                return False
+        elif kind != CHARACTER:
+            # A number that closes has come before as one that opens: asking here is enough.
+            if number in seen:
+                return False
+            seen[number] = True
+            if kind == OPENS:
+                pile.append(number)
+    return not pile
+
+
+def checked_row(text):
+    """The paragraph's row that has this text; a Fault, BeyondBounds or NotPaired if it is not right."""
+    row = read_row(text)
+    if len(row) > MOST_PIECES:
+        raise BeyondBounds()
+    if not is_paired(row):
+        raise NotPaired()
+    return row

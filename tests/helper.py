@@ -1,0 +1,250 @@
+"""What both test files share: how a call is asked, and the document's words written down a second time.
+
+The second writing goes about it as differently as can be: texts are judged whole, by regular expressions, and a
+beginning of a text by trying what it could go on with; matching tries every stretch of characters by itself.
+"""
+
+import itertools
+import re
+import unittest
+
+LAST = 0x10FFFF
+
+
+def utf8(text):
+    """The bytes of a text, as the calls take them."""
+    return list(text.encode("utf-8"))
+
+
+def full_text(size):
+    """The text of rules within their bounds, of just this many bytes (some thousands at least)."""
+    item = '"' + "\U0001d11e" * 32 + '"'
+    line = "+ " + (item + " ") * 16 + "|" + (" " + item) * 16 + "\n"
+    lines = [line] * ((size - 20) // len(line.encode("utf-8")))
+    left = size - sum(len(line.encode("utf-8")) for line in lines)
+    # Then as many of such items as there is room for, and what's left is one atom.
+    items = min((left - 12) // 131, 32)
+    lines.append("+ " + (item + " ") * min(items, 16) + "|" + (" " + item) * max(items - 16, 0) + "\n")
+    left = left - 4 - 131 * items
+    if left > 135:
+        lines.append("+ |\n")
+        left = left - 4
+    fours, rest = divmod(left - 7, 4)
+    lines.append('+ "' + "\U0001d11e" * fours + ["", "a", "\u00e4", "\u20ac"][rest] + '" |\n')
+    found = utf8("".join(lines))
+    assert len(found) == size
+    return found
+
+
+class Fixed(list):
+    """A list that can't be changed, not for a while either."""
+
+    def refuse(self, *arguments, **named):
+        raise AssertionError("what was handed in was to be changed")
+
+    __setitem__ = __delitem__ = __iadd__ = __imul__ = refuse
+    append = clear = extend = insert = pop = remove = reverse = sort = refuse
+
+
+class Asking(unittest.TestCase):
+    """Tests that ask a call and look at all that the interface says of its answer."""
+
+    def ask(self, call, *texts):
+        """What the call answers for these texts; it is asked three times."""
+        handed = [list(text) for text in texts]
+        answer = call(*handed)
+        self.assertEqual(handed, [list(text) for text in texts], "what was handed in was changed")
+        self.assertIs(type(answer), list)
+        for number in answer:
+            self.assertIs(type(number), int)
+        kept = list(answer)
+        # Whoever gets an answer may do with it what he likes: the next one is the same.
+        answer.append(-1)
+        self.assertEqual(call(*handed), kept, "the second answer is another one")
+        self.assertEqual(call(*[Fixed(text) for text in texts]), kept)
+        return kept
+
+
+def is_character(number):
+    """Whether the number is a character's, range by range."""
+    if not (0x20 <= number <= 0x7E or 0xA0 <= number <= 0xD7FF or 0xE000 <= number <= 0x10FFFF):
+        return False
+    return number & 0xFFFF not in (0xFFFE, 0xFFFF)
+
+
+NUMBER = rb"(?:0|[1-9][0-9]*)"
+ITEM = rb'(?:\.|%' + NUMBER + rb'|"[^"\n]+")(?:\*' + NUMBER + rb"-" + NUMBER + rb")?"
+CLASS_LINE = re.compile(rb"%" + NUMBER + rb"(?: " + NUMBER + rb"-" + NUMBER + rb")+")
+RULE_LINE = re.compile(rb"[+-] (?:\^ )?(?:" + ITEM + rb" )*\|(?: " + ITEM + rb")*(?: \$)?")
+ITEM_PARTS = re.compile(rb'(?:\.|%([0-9]+)|"([^"\n]+)")(?:\*([0-9]+)-([0-9]+))?')
+
+
+def are_characters(part):
+    """Whether the bytes are characters in UTF-8."""
+    try:
+        return all(is_character(ord(sign)) for sign in part.decode("utf-8"))
+    except UnicodeDecodeError:
+        return False
+
+
+def is_item(number, characters, least, most, classes):
+    """Whether an item is right, of whose form the regular expression has judged already."""
+    if number is not None and int(number) not in classes:
+        return False
+    if characters is not None and not are_characters(characters):
+        return False
+    if least is None:
+        return True
+    return int(least) <= int(most) <= 32 and (least, most) != (b"1", b"1")
+
+
+def is_rules_text(data):
+    """Whether the bytes are some rules' text, whatever is told of how many there may be."""
+    if data == b"":
+        return True
+    if data[-1:] != b"\n":
+        return False
+    classes = []
+    rules_begun = False
+    for line in data[:-1].split(b"\n"):
+        if CLASS_LINE.fullmatch(line) and not rules_begun:
+            number, *ranges = line[1:].split(b" ")
+            bounds = [int(bound) for part in ranges for bound in part.split(b"-")]
+            if int(number) > 15 or classes and classes[-1] >= int(number) or bounds[-1] > LAST:
+                return False
+            if any(bounds[i] > bounds[i + 1] for i in range(0, len(bounds), 2)):
+                return False
+            if any(bounds[i] >= bounds[i + 1] for i in range(1, len(bounds) - 1, 2)):
+                return False
+            classes.append(int(number))
+        elif RULE_LINE.fullmatch(line):
+            rules_begun = True
+            if not all(is_item(*item, classes) for item in
+                       (match.groups() for match in ITEM_PARTS.finditer(line))):
+                return False
+        else:
+            return False
+    return True
+
+
+def ways_on():
+    """What is put behind a beginning of a text to see whether some text begins so."""
+    digits = {b""}
+    digits.update(b"%d" % number for number in range(33))
+    digits.update(digit * times for digit in (b"0", b"9") for times in range(1, 7))
+    digits.update(b"1114111"[start:] for start in range(7))
+    behind_utf8 = [b"", b"\x80", b"\xa0", b"\x80\x80", b"\xa0\x80", b"\x90\x80", b"\x80\x80\x80", b"\x90\x80\x80"]
+    found = {b"", b"|\n", b".\n"}
+    for end in (b"\n", b" |\n"):
+        found.update([b"0-0" + end, b'a"' + end])
+        found.update(tail + b'"' + end for tail in behind_utf8)
+        found.update(tail + end for tail in digits)
+        found.update(tail + b"-32" + end for tail in digits)
+    found.update(tail + b" 1114111-1114111\n" for tail in digits)
+    found.update(tail + b"-1114111\n" for tail in digits)
+    return sorted(found)
+
+
+WAYS_ON = ways_on()
+
+
+def begins_rules_text(data):
+    """Whether some rules' text begins with the bytes."""
+    return any(is_rules_text(data + way) for way in WAYS_ON)
+
+
+def write_item(item):
+    """An item's text; an item is its atom and how often: '.', a class's number or (characters,)."""
+    atom, least, most = item
+    if atom == ".":
+        text = "."
+    elif isinstance(atom, int):
+        text = f"%{atom}"
+    else:
+        text = f'"{atom[0]}"'
+    return text if (least, most) == (1, 1) else f"{text}*{least}-{most}"
+
+
+def write_rules(classes, rules):
+    """The text of rules; a rule is (cuts, from the beginning, before, behind, to the end)."""
+    lines = []
+    for number in sorted(classes):
+        lines.append(f"%{number}" + "".join(f" {low}-{high}" for low, high in classes[number]))
+    for cuts, beginning, before, behind, end in rules:
+        words = ["+" if cuts else "-"] + ["^"] * beginning + [write_item(item) for item in before]
+        lines.append(" ".join(words + ["|"] + [write_item(item) for item in behind] + ["$"] * end))
+    return "".join(line + "\n" for line in lines)
+
+
+def write_row(row):
+    """A row's text; a piece is a character, or a tag as its sign and its number."""
+    return "".join("{%s%d}" % piece if isinstance(piece, tuple) else piece.replace("{", "{{") for piece in row)
+
+
+def stands_for(atom, text, classes):
+    """Whether the atom stands for the text."""
+    if atom == ".":
+        return len(text) == 1
+    if isinstance(atom, int):
+        return len(text) == 1 and any(low <= ord(text) <= high for low, high in classes[atom])
+    return text == atom[0]
+
+
+def match(items, text, classes):
+    """Whether the items match the text, just the whole of it."""
+    if not items:
+        return text == ""
+    (atom, least, most), rest = items[0], items[1:]
+    if least == 0 and match(rest, text, classes):
+        return True
+    if most == 0:
+        return False
+    once_less = [(atom, max(least - 1, 0), most - 1)] + rest
+    return any(stands_for(atom, text[:size], classes) and match(once_less, text[size:], classes)
+               for size in range(1, len(text) + 1))
+
+
+def says(rule, place, text, classes):
+    """Whether the rule says something at the place."""
+    beginning, before, behind, end = rule[1:]
+    starts = [0] if beginning else range(place + 1)
+    ends = [len(text)] if end else range(place, len(text) + 1)
+    return (any(match(before, text[start:place], classes) for start in starts)
+            and any(match(behind, text[place:stop], classes) for stop in ends))
+
+
+def is_cut(place, text, classes, rules):
+    """Whether the first rule that says something at the place cuts."""
+    for rule in rules:
+        if says(rule, place, text, classes):
+            return rule[0]
+    return False
+
+
+def stretches(row, classes, rules):
+    """The stretches into which the row is parted, tags where they belong."""
+    text = "".join(piece for piece in row if isinstance(piece, str))
+    found = [[]]
+    place = 0
+    waiting = False
+    for piece in row:
+        # A cut stands before the next open tag, or else before the next character.
+        if waiting and (isinstance(piece, str) or piece[0] == "+"):
+            found.append([])
+            waiting = False
+        found[-1].append(piece)
+        if isinstance(piece, str):
+            place += 1
+            waiting = place < len(text) and is_cut(place, text, classes, rules)
+    return found
+
+
+def segments(row, classes, rules):
+    """The row's segments."""
+    found = []
+    for stretch in stretches(row, classes, rules):
+        if any(isinstance(piece, str) and piece != " " for piece in stretch):
+            without_first = list(itertools.dropwhile(lambda piece: piece == " ", stretch))
+            without_last = list(itertools.dropwhile(lambda piece: piece == " ", reversed(without_first)))
+            found.append(without_last[::-1])
+    return found
