@@ -1,11 +1,10 @@
-"""Where a paragraph is cut by rules, and how many segments that makes.
+"""Where a paragraph is cut by rules, among its characters.
 
 Many places are kept as one whole number, which has the bit p (its value is 1 << p) where the place p is among
 them. So what holds at each place is worked out for all of them at once.
 """
 
-from segmentrules.reading import BLANK
-from segmentrules.rowtext import CHARACTER
+from segmentrules.errors import NotThere
 from segmentrules.rulestext import ANY, CERTAIN
 
 
@@ -89,6 +88,17 @@ class Paragraph:
         return before & behind
 
 
+def deciding_rule(place, characters, rule_set):
+    """The number of the first rule that says something at the place; NotThere if there is no such place or rule."""
+    if place < 1 or place >= len(characters):
+        raise NotThere()
+    paragraph = Paragraph(characters, rule_set.classes)
+    for number, rule in enumerate(rule_set.rules):
+        if (paragraph.where_says(rule) >> place) & 1 == 1:
+            return number
+    raise NotThere()
+
+
 def cut_places(characters, rule_set):
     """The places at which the first rule that says anything there cuts, rising."""
     paragraph = Paragraph(characters, rule_set.classes)
@@ -101,16 +111,3 @@ def cut_places(characters, rule_set):
             cuts = cuts | decided
         undecided = undecided - decided
     return [place for place in inner if (cuts >> place) & 1 == 1]
-
-
-def segment_count(row, rule_set):
-    """How many segments the rules make of the row."""
-    # On which side of a cut a tag stands changes no stretch's characters, so only these are looked at.
-    characters = [number for kind, number in row if kind == CHARACTER]
-    found = 0
-    first = 0
-    for behind in cut_places(characters, rule_set) + [len(characters)]:
-        if any([character != BLANK for character in characters[first:behind]]):
-            found += 1
-        first = behind
-    return found

@@ -1,16 +1,44 @@
-"""The errors that stand for a text that is refused."""
+"""The errors that stand for refusals."""
 
 
-class Fault(ValueError):
+class Refusal(ValueError):
+    """A call that is refused; the number is what it answers."""
+
+    def __init__(self, number):
+        self.number = number
+
+
+class TooLarge(Refusal):
+    """A text of more bytes than one of its kind may have."""
+
+    def __init__(self):
+        Refusal.__init__(self, -6)
+
+
+class Fault(Refusal):
     """No text of its kind: at this place none goes on as the bytes do."""
 
     def __init__(self, place):
+        Refusal.__init__(self, -5)
         self.place = place
 
 
-class BeyondBounds(ValueError):
+class BeyondBounds(Refusal):
     """A text of its kind, but one with more of something than is allowed."""
 
+    def __init__(self):
+        Refusal.__init__(self, -6)
 
-class NotPaired(ValueError):
+
+class NotPaired(Refusal):
     """A row whose tags do not stand in pairs."""
+
+    def __init__(self):
+        Refusal.__init__(self, -5)
+
+
+class NotThere(Refusal):
+    """What is asked for by its number is not there."""
+
+    def __init__(self):
+        Refusal.__init__(self, -2)

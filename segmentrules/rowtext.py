@@ -19,6 +19,20 @@ LAST_TAG = 999
 MOST_PIECES = 4096
 
 
+class Row:
+    """A row's pieces, and its text with the places in it where each piece begins and where the last one ends."""
+
+    def __init__(self, text, pieces, starts):
+        self.text = text
+        self.pieces = pieces
+        self.starts = starts
+
+    def text_between(self, first, behind):
+        """The text of the pieces from one place in the row up to another."""
+        # A row has one text alone, so the pieces' own is a part of it as it stands.
+        return self.text[self.starts[first]:self.starts[behind]]
+
+
 def read_piece(reader):
     """A character or a tag."""
     if reader.look() != LEFT_BRACE:
@@ -35,17 +49,24 @@ def read_piece(reader):
 def read_row(text):
     """The row that has this text, however many pieces it has; a Fault if none has it."""
     reader = Reader(text)
-    row = []
+    pieces = []
+    starts = [0]
     while not reader.ended():
-        row.append(read_piece(reader))
-    return row
+        pieces.append(read_piece(reader))
+        starts.append(reader.place)
+    return Row(text, pieces, starts)
+
+
+def characters_of(row):
+    """The numbers of the row's characters, tags left out."""
+    return [number for kind, number in row.pieces if kind == CHARACTER]
 
 
 def is_paired(row):
     """Whether the row's tags stand in pairs, each number once."""
     pile = []
     seen = {}
-    for kind, number in row:
+    for kind, number in row.pieces:
         if kind == CLOSES:
             if not pile or pile.pop() != number:
                 return False
@@ -62,7 +83,7 @@ def is_paired(row):
 def checked_row(text):
     """The paragraph's row that has this text; a Fault, BeyondBounds or NotPaired if it is not right."""
     row = read_row(text)
-    if len(row) > MOST_PIECES:
+    if len(row.pieces) > MOST_PIECES:
         raise BeyondBounds()
     if not is_paired(row):
         raise NotPaired()

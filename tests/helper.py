@@ -1,4 +1,4 @@
-"""What both test files share: how a call is asked, and the document's words written down a second time.
+"""What the test files share: how a call is asked, and the document's words written down a second time.
 
 The second writing goes about it as differently as can be: texts are judged whole, by regular expressions, and a
 beginning of a text by trying what it could go on with; matching tries every stretch of characters by itself.
@@ -49,11 +49,11 @@ class Fixed(list):
 class Asking(unittest.TestCase):
     """Tests that ask a call and look at all that the interface says of its answer."""
 
-    def ask(self, call, *texts):
-        """What the call answers for these texts; it is asked three times."""
-        handed = [list(text) for text in texts]
+    def ask(self, call, *values):
+        """What the call answers for these numbers and texts; it is asked three times."""
+        handed = copied(values, list)
         answer = call(*handed)
-        self.assertEqual(handed, [list(text) for text in texts], "what was handed in was changed")
+        self.assertEqual(handed, copied(values, list), "what was handed in was changed")
         self.assertIs(type(answer), list)
         for number in answer:
             self.assertIs(type(number), int)
@@ -61,8 +61,78 @@ class Asking(unittest.TestCase):
         # Whoever gets an answer may do with it what he likes: the next one is the same.
         answer.append(-1)
         self.assertEqual(call(*handed), kept, "the second answer is another one")
-        self.assertEqual(call(*[Fixed(text) for text in texts]), kept)
+        self.assertEqual(call(*copied(values, Fixed)), kept)
         return kept
+
+
+class RefusedPairs:
+    """What is refused of rules and a row that are handed in together, whatever is asked of them.
+
+    The class that takes this up says by `refuses(answer, rules_text, row_text)` what is asked. Where two refusals
+    hold, the first one is answered, and nothing stands behind it.
+    """
+
+    FAULT = "+ x |\n"
+    BEYOND = "+ |\n" * 257
+    TOO_MUCH = "+ |\n" * 16385
+
+    def test_rules_alone(self):
+        for row in ("", "a", "ab", "{+1}a{-1}"):
+            self.refuses([-5], self.FAULT, row)
+            self.refuses([-6], self.BEYOND, row)
+            self.refuses([-6], self.TOO_MUCH, row)
+
+    def test_rows_alone(self):
+        for rules_text in ("", "+ |\n"):
+            for row in ("ab{", "ab}{}", "ab\n", "ab{.0}", "ab{.1000}", "ab{+01}{-01}", "ab{.1", b"ab\xc3", b"\xffab"):
+                self.refuses([-5], rules_text, row)
+            for row in ("ab{+1}", "{-1}ab", "{+1}a{+2}b{-1}{-2}", "a{.1}b{.1}", "{.1}a{+1}{-1}b", "{+1}{-1}a{+1}{-1}b"):
+                self.refuses([-5], rules_text, row)
+            self.refuses([-6], rules_text, "a" * 4097)
+
+    def test_too_many_bytes_before_all_else(self):
+        for row in ("ab", "{", "{+1}", "a" * 4097, "{+1}" + "a" * 4096):
+            self.refuses([-6], self.TOO_MUCH, row)
+            self.refuses([-6], "x" * 65537, row)
+        for rules_text in ("", self.FAULT, self.BEYOND, self.TOO_MUCH):
+            self.refuses([-6], rules_text, "a" * 65537)
+            self.refuses([-6], rules_text, "{" * 65537)
+            self.refuses([-6], rules_text, "{+1}" + "a" * 65533)
+
+    def test_just_as_many_bytes_as_may_be(self):
+        self.refuses([-5], "x" * 65536, "ab")
+        self.refuses([-5], "", "a" * 65535 + "{")
+
+    def test_faults_of_the_rules_before_the_row(self):
+        for row in ("{", "{+1}", "a" * 4097, "{+1}" + "a" * 4096, "a" * 4097 + "{"):
+            self.refuses([-5], self.FAULT, row)
+            self.refuses([-5], self.BEYOND + "x", row)
+
+    def test_bounds_of_the_rules_before_the_row(self):
+        # Each text is gone through whole, in the order of the texts.
+        for row in ("{", "{+1}", "a" * 4097, "{+1}" + "a" * 4096, "a" * 4097 + "{"):
+            self.refuses([-6], self.BEYOND, row)
+
+    def test_a_rows_fault_before_its_pieces_before_its_pairs(self):
+        for rules_text in ("", "+ |\n"):
+            self.refuses([-5], rules_text, "a" * 4097 + "{")
+            self.refuses([-5], rules_text, "{+1}" + "a" * 4097 + "\n")
+            self.refuses([-6], rules_text, "{+1}" + "a" * 4096)
+            self.refuses([-6], rules_text, "{-1}" * 4097)
+            self.refuses([-5], rules_text, "{-1}" * 4096)
+            self.refuses([-5], rules_text, "{+1}" + "a" * 4095)
+
+    def test_each_bound_of_the_rules(self):
+        ranges = "%5" + "".join(f" {2 * low}-{2 * low}" for low in range(257)) + "\n"
+        item = '"' + "a" * 33 + '"'
+        for rules_text in (ranges, ranges + "+ %5 |\n", "+ " + ". " * 17 + "|\n", "+ |" + " ." * 17 + "\n",
+                           f"+ {item} |\n", f"+ | {item}*0-0\n", "+ |\n- |\n" * 128 + "+ |\n"):
+            self.refuses([-6], rules_text, "ab")
+
+
+def copied(values, into):
+    """The numbers as they are, of each text a copy of this kind."""
+    return [value if isinstance(value, int) else into(value) for value in values]
 
 
 def is_character(number):
@@ -213,12 +283,9 @@ def says(rule, place, text, classes):
             and any(match(behind, text[place:stop], classes) for stop in ends))
 
 
-def is_cut(place, text, classes, rules):
-    """Whether the first rule that says something at the place cuts."""
-    for rule in rules:
-        if says(rule, place, text, classes):
-            return rule[0]
-    return False
+def decides(place, text, classes, rules):
+    """The number of the first rule that says something at the place, None if none does."""
+    return next((number for number, rule in enumerate(rules) if says(rule, place, text, classes)), None)
 
 
 def stretches(row, classes, rules):
@@ -235,16 +302,56 @@ def stretches(row, classes, rules):
         found[-1].append(piece)
         if isinstance(piece, str):
             place += 1
-            waiting = place < len(text) and is_cut(place, text, classes, rules)
+            decider = decides(place, text, classes, rules) if place < len(text) else None
+            waiting = decider is not None and rules[decider][0]
     return found
 
 
 def segments(row, classes, rules):
-    """The row's segments."""
+    """The row's segments, each its first piece's place, the place behind its last, and its pieces."""
     found = []
+    behind = 0
     for stretch in stretches(row, classes, rules):
+        behind += len(stretch)
         if any(isinstance(piece, str) and piece != " " for piece in stretch):
             without_first = list(itertools.dropwhile(lambda piece: piece == " ", stretch))
-            without_last = list(itertools.dropwhile(lambda piece: piece == " ", reversed(without_first)))
-            found.append(without_last[::-1])
+            pieces = list(itertools.dropwhile(lambda piece: piece == " ", reversed(without_first)))[::-1]
+            first = behind - len(without_first)
+            found.append((first, first + len(pieces), pieces))
     return found
+
+
+def small_item(source, classes):
+    """An item for `write_item`; the source is one of random numbers."""
+    atoms = [".", ("a",), (".",), (" ",), ("ab",), ("aa",), (". ",)] + list(classes)
+    least = source.choice([0, 1, 1, 1, 2])
+    return source.choice(atoms), least, source.choice([most for most in (0, 1, 2, 3) if most >= least])
+
+
+def small_rules(source):
+    """Classes and rules for `write_rules`."""
+    classes = {3: [(97, 97), (123, 123)], 11: [(32, 32), (46, 98)]} if source.random() < 0.7 else {}
+    rules = []
+    for turn in range(source.randint(0, 4)):
+        before, behind = ([small_item(source, classes) for turn in range(source.choice([0, 1, 1, 2, 3]))]
+                          for side in range(2))
+        rules.append((source.random() < 0.6, source.random() < 0.2, before, behind, source.random() < 0.2))
+    return classes, rules
+
+
+def small_row(source):
+    """A paired row for `write_row`."""
+    numbers = source.sample(range(1, 1000), 8)
+    row, pile = [], []
+    for turn in range(source.randint(0, 12)):
+        kind = source.randint(0, 7)
+        if kind == 0 and len(numbers) > 2:
+            pile.append(numbers.pop())
+            row.append(("+", pile[-1]))
+        elif kind == 1 and pile:
+            row.append(("-", pile.pop()))
+        elif kind == 2 and len(numbers) > 1:
+            row.append((".", numbers.pop()))
+        else:
+            row.append(source.choice("aab.. {"))
+    return row + [("-", number) for number in reversed(pile)]

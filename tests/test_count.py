@@ -3,7 +3,8 @@
 import random
 import unittest
 
-from helper import Asking, full_text, segments, utf8, write_row, write_rules
+from helper import (Asking, RefusedPairs, full_text, segments, small_row, small_rules, utf8, write_row,
+                    write_rules)
 from segmentrules.segments import count
 
 SENTENCES = '%0 65-90\n- "z." | " B."\n+ ".*?" |\n+ "." | " " %0\n+ "!" | " "\n'
@@ -355,45 +356,9 @@ class Bounds(CountCase):
         self.check([1], classes + "".join(f"+ %{number}*32-32 |\n" for number in range(16)), row)
 
 
-class Refusals(CountCase):
-    """Where two refusals hold, the first one is answered, and nothing stands behind it."""
-
-    FAULT = "+ x |\n"
-    BEYOND = "+ |\n" * 257
-    TOO_MUCH = "+ |\n" * 16385
-
-    def test_rules_alone(self):
-        for row in ("", "a", "{+1}a{-1}"):
-            self.check([-5], self.FAULT, row)
-            self.check([-6], self.BEYOND, row)
-            self.check([-6], self.TOO_MUCH, row)
-
-    def test_too_many_bytes_before_all_else(self):
-        for row in ("a", "{", "{+1}", "a" * 4097, "{+1}" + "a" * 4096):
-            self.check([-6], self.TOO_MUCH, row)
-        for rules_text in ("", self.FAULT, self.BEYOND, self.TOO_MUCH):
-            self.check([-6], rules_text, "a" * 65537)
-            self.check([-6], rules_text, "{" * 65537)
-            self.check([-6], rules_text, "{+1}" + "a" * 65533)
-
-    def test_faults_of_the_rules_before_the_row(self):
-        for row in ("{", "{+1}", "a" * 4097, "{+1}" + "a" * 4096, "a" * 4097 + "{"):
-            self.check([-5], self.FAULT, row)
-            self.check([-5], self.BEYOND + "x", row)
-
-    def test_bounds_of_the_rules_before_the_row(self):
-        # Each text is gone through whole, in the order of the texts.
-        for row in ("{", "{+1}", "a" * 4097, "{+1}" + "a" * 4096, "a" * 4097 + "{"):
-            self.check([-6], self.BEYOND, row)
-
-    def test_a_rows_fault_before_its_pieces_before_its_pairs(self):
-        for rules_text in ("", "+ |\n"):
-            self.check([-5], rules_text, "a" * 4097 + "{")
-            self.check([-5], rules_text, "{+1}" + "a" * 4097 + "\n")
-            self.check([-6], rules_text, "{+1}" + "a" * 4096)
-            self.check([-6], rules_text, "{-1}" * 4097)
-            self.check([-5], rules_text, "{-1}" * 4096)
-            self.check([-5], rules_text, "{+1}" + "a" * 4095)
+class Refusals(RefusedPairs, CountCase):
+    def refuses(self, answer, rules_text, row_text):
+        self.check(answer, rules_text, row_text)
 
 
 class OneCallByItself(CountCase):
@@ -407,41 +372,11 @@ class OneCallByItself(CountCase):
 class AgainstTheDefinition(CountCase):
     """Small rules and rows, compared with what the document's words say when followed one by one."""
 
-    SIGNS = "aab.. {"
-
-    def item(self, source, classes):
-        atoms = [".", ("a",), (".",), (" ",), ("ab",), ("aa",), (". ",)] + list(classes)
-        least = source.choice([0, 1, 1, 1, 2])
-        return source.choice(atoms), least, source.choice([most for most in (0, 1, 2, 3) if most >= least])
-
-    def rule(self, source, classes):
-        before, behind = ([self.item(source, classes) for turn in range(source.choice([0, 1, 1, 2, 3]))]
-                          for side in range(2))
-        return (source.random() < 0.6, source.random() < 0.2, before, behind, source.random() < 0.2)
-
-    def row(self, source):
-        """A paired row."""
-        numbers = source.sample(range(1, 1000), 8)
-        row, pile = [], []
-        for turn in range(source.randint(0, 12)):
-            kind = source.randint(0, 7)
-            if kind == 0 and len(numbers) > 2:
-                pile.append(numbers.pop())
-                row.append(("+", pile[-1]))
-            elif kind == 1 and pile:
-                row.append(("-", pile.pop()))
-            elif kind == 2 and len(numbers) > 1:
-                row.append((".", numbers.pop()))
-            else:
-                row.append(source.choice(self.SIGNS))
-        return row + [("-", number) for number in reversed(pile)]
-
     def test_small_rules_and_rows(self):
         source = random.Random(20261119)
         for turn in range(400):
-            classes = {3: [(97, 97), (123, 123)], 11: [(32, 32), (46, 98)]} if source.random() < 0.7 else {}
-            rules = [self.rule(source, classes) for turn in range(source.randint(0, 4))]
-            row = self.row(source)
+            classes, rules = small_rules(source)
+            row = small_row(source)
             rules_text, row_text = write_rules(classes, rules), write_row(row)
             with self.subTest(rules=rules_text, row=row_text):
                 self.check([len(segments(row, classes, rules))], rules_text, row_text)
