@@ -1,1 +1,1 @@
-"""Segments of a paragraph, by rules that are handed in."""
+"""Segments of paragraphs and documents, by rules that are handed in."""

@@ -1,12 +1,9 @@
-"""How the cuts part a row into stretches, and these into segments and what stands between them.
-
-A stretch or a segment is two places in the row: that of its first piece, and the one behind its last.
-"""
+"""How the cuts part a row into stretches, and these into segments and glue, which stands between them."""
 
 from segmentrules.cutting import cut_places
 from segmentrules.errors import NotThere
 from segmentrules.reading import BLANK
-from segmentrules.rowtext import ALONE, CHARACTER, CLOSES, characters_of
+from segmentrules.rowtext import ALONE, CHARACTER, CLOSES, Part, characters_of
 
 BLANK_PIECE = (CHARACTER, BLANK)
 
@@ -20,45 +17,66 @@ def cut_behind(pieces, place):
     return cut
 
 
-def stretches(row, rule_set):
-    """The stretches into which the cuts part the row, in order."""
+def stretches(row, cuts):
+    """The stretches into which the row is parted by cuts at these places among its characters, in order."""
     at = [place for place, piece in enumerate(row.pieces) if piece[0] == CHARACTER]
     found = []
     first = 0
-    for cut in cut_places(characters_of(row), rule_set):
+    for cut in cuts:
         behind = cut_behind(row.pieces, at[cut - 1])
-        found.append((first, behind))
+        found.append(Part(row, first, behind))
         first = behind
-    found.append((first, len(row.pieces)))
+    found.append(Part(row, first, len(row.pieces)))
     return found
 
 
-def is_glue(pieces):
-    """Whether there is no character but blanks among the pieces."""
-    return all([kind != CHARACTER or number == BLANK for kind, number in pieces])
+def has_segment(stretch):
+    """Whether there is a character in the stretch that is no blank."""
+    return any([kind == CHARACTER and number != BLANK for kind, number in stretch.pieces])
 
 
-def without_blanks(pieces, first, behind):
-    """The stretch without the blanks that it begins and ends with; it is to have some other character."""
-    while pieces[first] == BLANK_PIECE:
+def without_blanks(row, stretch):
+    """The stretch of the row without the blanks that it begins and ends with; it is to have some other character."""
+    first = stretch.first
+    while row.pieces[first] == BLANK_PIECE:
         first += 1
-    while pieces[behind - 1] == BLANK_PIECE:
+    behind = stretch.behind
+    while row.pieces[behind - 1] == BLANK_PIECE:
         behind -= 1
-    return first, behind
+    return Part(row, first, behind)
 
 
-def segments_of(row, rule_set):
-    """The segments that the rules make of the row, in order."""
+def segments_of(rows, rule_set):
+    """For each of the rows the segments that the rules make of it, in order."""
     found = []
-    for first, behind in stretches(row, rule_set):
-        if not is_glue(row.pieces[first:behind]):
-            found.append(without_blanks(row.pieces, first, behind))
+    for row, cuts in zip(rows, cut_places([characters_of(row) for row in rows], rule_set)):
+        found.append([without_blanks(row, stretch) for stretch in stretches(row, cuts) if has_segment(stretch)])
     return found
 
 
-def segment_of(number, row, rule_set):
-    """The segment of this number; NotThere if there is none."""
-    found = segments_of(row, rule_set)
+def segments_by_line(lines, rule_set):
+    """For each line of a document the segments that the rules make of it, in order; a raw line has none."""
+    found = [[] for line in lines]
+    numbers = [number for number, line in enumerate(lines) if line.row is not None]
+    rows = [lines[number].row for number in numbers]
+    for number, segments in zip(numbers, segments_of(rows, rule_set)):
+        found[number] = segments
+    return found
+
+
+def glue_beside(segments, row):
+    """The glue before, between and behind these segments of the row, in order."""
+    found = []
+    first = 0
+    for segment in segments:
+        found.append(Part(row, first, segment.first))
+        first = segment.behind
+    found.append(Part(row, first, len(row.pieces)))
+    return found
+
+
+def of_number(number, found):
+    """The one of this number; NotThere if there is none."""
     if number >= len(found):
         raise NotThere()
     return found[number]

@@ -1,4 +1,4 @@
-"""Bytes gone through from the left, as the texts of rules and of rows need it."""
+"""Bytes gone through from the left, as the texts of rules, rows and documents need it."""
 
 from segmentrules.errors import Fault
 
@@ -7,12 +7,14 @@ NO_BYTE = 256
 
 LAST_NUMBER = 0x10FFFF
 
+LINE_FEED = 0x0A
 BLANK = 0x20
 PLUS = 0x2B
 HYPHEN = 0x2D
 DOT = 0x2E
 NOUGHT = 0x30
 NINE = 0x39
+BAR = 0x7C
 
 # The bounds of the second byte where they are narrower than 80H to BFH (RFC 3629, section 4).
 SECOND_BYTES = {0xE0: (0xA0, 0xBF), 0xED: (0x80, 0x9F), 0xF0: (0x90, 0xBF), 0xF4: (0x80, 0x8F)}
@@ -57,19 +59,20 @@ def leads_to(number, least, most):
 
 
 class Reader:
-    """Bytes, and the place of the next one.
+    """Bytes, the place of the next one, and the place behind the last one that is to be taken.
 
     What is taken is taken byte by byte, each only if it can stand there, so a Fault tells the first place
     at which the bytes go on as no text does.
     """
 
-    def __init__(self, text):
+    def __init__(self, text, first, behind):
         self.text = text
-        self.place = 0
+        self.place = first
+        self.behind = behind
 
     def ended(self):
         """Whether all bytes are taken."""
-        return self.place == len(self.text)
+        return self.place == self.behind
 
     def look(self):
         """The next byte, not taken; NO_BYTE behind the last."""

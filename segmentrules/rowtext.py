@@ -20,17 +20,23 @@ MOST_PIECES = 4096
 
 
 class Row:
-    """A row's pieces, and its text with the places in it where each piece begins and where the last one ends."""
+    """A row's pieces, and a text with the places in it where each of them begins and where the last one ends."""
 
     def __init__(self, text, pieces, starts):
         self.text = text
         self.pieces = pieces
         self.starts = starts
 
-    def text_between(self, first, behind):
-        """The text of the pieces from one place in the row up to another."""
+
+class Part:
+    """What stands in a row from one place up to another: these places, the pieces and their text."""
+
+    def __init__(self, row, first, behind):
+        self.first = first
+        self.behind = behind
+        self.pieces = row.pieces[first:behind]
         # A row has one text alone, so the pieces' own is a part of it as it stands.
-        return self.text[self.starts[first]:self.starts[behind]]
+        self.text = row.text[row.starts[first]:row.starts[behind]]
 
 
 def read_piece(reader):
@@ -46,11 +52,11 @@ def read_piece(reader):
     return kind, number
 
 
-def read_row(text):
-    """The row that has this text, however many pieces it has; a Fault if none has it."""
-    reader = Reader(text)
+def read_row(text, first, behind):
+    """The row that has this part of a text, however many pieces it has; a Fault if none has it."""
+    reader = Reader(text, first, behind)
     pieces = []
-    starts = [0]
+    starts = [first]
     while not reader.ended():
         pieces.append(read_piece(reader))
         starts.append(reader.place)
@@ -82,7 +88,7 @@ def is_paired(row):
 
 def checked_row(text):
     """The paragraph's row that has this text; a Fault, BeyondBounds or NotPaired if it is not right."""
-    row = read_row(text)
+    row = read_row(text, 0, len(text))
     if len(row.pieces) > MOST_PIECES:
         raise BeyondBounds()
     if not is_paired(row):

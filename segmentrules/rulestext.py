@@ -1,15 +1,13 @@
 """Rules, and how they are read from their text."""
 
 from segmentrules.errors import BeyondBounds, Fault
-from segmentrules.reading import BLANK, DOT, HYPHEN, LAST_NUMBER, PLUS, Reader
+from segmentrules.reading import BAR, BLANK, DOT, HYPHEN, LAST_NUMBER, LINE_FEED, PLUS, Reader
 
-LINE_FEED = 0x0A
 QUOTE = 0x22
 DOLLAR = 0x24
 PERCENT = 0x25
 STAR = 0x2A
 CARET = 0x5E
-BAR = 0x7C
 
 # What kind of atom an item has.
 ANY = 0
@@ -166,7 +164,7 @@ def read_rule(reader, known):
 
 def read_rules(text):
     """The rules that have this text, however many of each thing there are; a Fault if none have it."""
-    reader = Reader(text)
+    reader = Reader(text, 0, len(text))
     classes = read_classes(reader)
     known = list(classes)
     found = []

@@ -4,8 +4,10 @@
 """
 
 from segmentrules.cutting import deciding_rule
+from segmentrules.documenttext import MOST_DOCUMENT_BYTES, read_document
 from segmentrules.errors import Fault, Refusal, TooLarge
-from segmentrules.parting import segment_of, segments_of
+from segmentrules.forms import of_earlier_form, words_in
+from segmentrules.parting import glue_beside, of_number, segments_by_line, segments_of
 from segmentrules.rowtext import characters_of, checked_row
 from segmentrules.rulestext import checked_rules
 
@@ -13,19 +15,43 @@ MOST_RULES_BYTES = 65536
 MOST_ROW_BYTES = 65536
 
 
+def check_size(text, most):
+    """Refuse a text of more bytes than its kind may have."""
+    if len(text) > most:
+        raise TooLarge()
+
+
 def rules_and_row(t, r):
     """The rules and the row that have these texts; a Refusal, the first that holds, if one is not right."""
-    if len(t) > MOST_RULES_BYTES or len(r) > MOST_ROW_BYTES:
-        raise TooLarge()
+    check_size(t, MOST_RULES_BYTES)
+    check_size(r, MOST_ROW_BYTES)
     rule_set = checked_rules(t)
     return rule_set, checked_row(r)
+
+
+def row_and_segments(t, r):
+    """The row that has the text r, and the segments that the rules t make of it; a Refusal as above."""
+    rule_set, row = rules_and_row(t, r)
+    return row, segments_of([row], rule_set)[0]
+
+
+def rules_and_lines(t, d):
+    """The rules and the document's lines that have these texts; a Refusal as above."""
+    check_size(t, MOST_RULES_BYTES)
+    check_size(d, MOST_DOCUMENT_BYTES)
+    rule_set = checked_rules(t)
+    return rule_set, read_document(d)
+
+
+def counted(text):
+    """How many bytes the text has, and they."""
+    return [len(text)] + text
 
 
 def rules(t):
     """How many rules t has; behind -5 stands the fault's place."""
     try:
-        if len(t) > MOST_RULES_BYTES:
-            raise TooLarge()
+        check_size(t, MOST_RULES_BYTES)
         rule_set = checked_rules(t)
     except Fault as fault:
         return [fault.number, fault.place]
@@ -37,10 +63,10 @@ def rules(t):
 def count(t, r):
     """How many segments the rules t make of the paragraph r."""
     try:
-        rule_set, row = rules_and_row(t, r)
+        row, segments = row_and_segments(t, r)
     except Refusal as refusal:
         return [refusal.number]
-    return [len(segments_of(row, rule_set))]
+    return [len(segments)]
 
 
 def rule(p, t, r):
@@ -56,9 +82,31 @@ def rule(p, t, r):
 def seg(k, t, r):
     """0, and of the paragraph r's segment k where it begins and ends in the row, how many bytes it has, and they."""
     try:
-        rule_set, row = rules_and_row(t, r)
-        first, behind = segment_of(k, row, rule_set)
+        row, segments = row_and_segments(t, r)
+        segment = of_number(k, segments)
     except Refusal as refusal:
         return [refusal.number]
-    text = row.text_between(first, behind)
-    return [0, first, behind, len(text)] + text
+    return [0, segment.first, segment.behind] + counted(segment.text)
+
+
+def glue(k, t, r):
+    """0, and of the paragraph r's glue k, which is before the segment k, how many bytes it has, and they."""
+    try:
+        row, segments = row_and_segments(t, r)
+        between = of_number(k, glue_beside(segments, row))
+    except Refusal as refusal:
+        return [refusal.number]
+    return [0] + counted(between.text)
+
+
+def segs(t, d):
+    """0, and of the document d's segments how many there are, and how many words, forms met before, and pieces."""
+    try:
+        rule_set, lines = rules_and_lines(t, d)
+    except Refusal as refusal:
+        return [refusal.number]
+    found = []
+    for segments in segments_by_line(lines, rule_set):
+        found.extend([segment.pieces for segment in segments])
+    words = sum([words_in(pieces) for pieces in found])
+    return [0, len(found), words, of_earlier_form(found), sum([len(pieces) for pieces in found])]

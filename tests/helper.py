@@ -36,6 +36,37 @@ def full_text(size):
     return found
 
 
+HIGHEST = 4294967295
+
+# Documents that are none, and the places of their faults; of several reasons the first one tells the place.
+FAULTY_DOCUMENTS = [
+    # More than 16384 lines.
+    ("|\n" * 16385, 32768), (">\n" * 16384 + "x", 32768), ("|\n" * 16384 + "\n", 32768),
+    ("|\n" * 16384 + ">a{", 32768), ("|\n>a\n" * 8192 + ">{-1}\n", 40960),
+    # A line without a byte, or one that begins with another one.
+    ("\n", 0), ("|a\n\n", 3), (">a\n\n|b\n", 3), ("a\n", 0), (" |\n", 0), ("=a\n", 0), ("-\n", 0), ("{|\n", 0),
+    (b"\xff\n", 0), (b"|a\n\x00|\n", 3), ("x", 0), ("|a\nb{", 3), ("|a\n>b\n<c\n|d\n", 6),
+    # A last line that isn't ended.
+    ("|", 1), (">", 1), ("|abc", 4), (">abc", 4), (">a\n|b", 5), ("|\x07", 2), (">{.0}", 5), (">a\n>{+1}b", 9),
+    ("|" + "a" * 4097, 4098), (">" + "a" * 4097, 4098), ("|\n" * 16383 + ">", 32767),
+    # A byte that no raw line goes on with.
+    ("|\x1f\n", 1), ("|a\x7f\n", 2), ("|a\tb\n|\n", 2), ("|a\r\n", 2), ("|\n|\u0080\n", 4), (b"|\xc3\n", 2),
+    (b"|a\xe2\x82\n", 4), (b"|\xed\xa0\x80\n", 2), (b"|\xef\xbf\xbe\n", 3), (b"|\xf4\x90\x80\x80\n", 2),
+    (b"|a\xff\n", 2), (b"|\xc0\x80\n", 1), ("|" + "a" * 4097 + "\x00\n", 4098),
+    # A byte that no row's text goes on with.
+    (">{\n", 2), (">a{+\n", 4), (">{+1\n", 4), (">{.0}\n", 3), (">{.01}\n", 3), (">{.1000}\n", 6), (">{a}\n", 2),
+    (">{.1x}\n", 4), (">a\tb\n", 2), (b">\xe2\x82\n", 3), (b">\xe2\x82a\n", 3), ("|{\n>{}\n", 5), (">{+1}{\n", 6),
+    (">{{{\n", 4), (">" + "a" * 4097 + "{\n", 4099), (">" + "a" * 65536 + "\x7f\n", 65537), (">{-1}\x00\n", 5),
+    # More than 4096 characters or pieces, so 65536 bytes or more, too.
+    ("|" + "a" * 4097 + "\n", 0), ("|\n|" + "{" * 4097 + "\n", 2), ("|" + "\U0001d11e" * 4097 + "\n", 0),
+    (">" + "a" * 4097 + "\n", 0), (">a\n>" + "{{" * 4097 + "\n", 3), (">{+1}" + "a" * 4095 + "{-1}\n", 0),
+    (">" + "a" * 65536 + "\n", 0), (">" + "a" * 65537 + "\n", 0), ("|\n>" + "\U0001d11e" * 16384 + "\n", 2),
+    # Not paired.
+    (">{+1}\n", 0), (">a{-1}\n", 0), ("|{+1}\n>{+1}a{+2}b{-1}{-2}\n", 6), (">a\n>{.1}{.1}\n", 3),
+    (">{+1}{-1}{.1}\n", 0), (">{+1}\n>{-1}\n", 0), (">{+1}{-1}{+1}{-1}\n\n", 0), (">{-2}{+2}\n|", 0),
+]
+
+
 class Fixed(list):
     """A list that can't be changed, not for a while either."""
 
@@ -64,12 +95,19 @@ class Asking(unittest.TestCase):
         self.assertEqual(call(*copied(values, Fixed)), kept)
         return kept
 
+    def check_call(self, expected, call, *values):
+        """That the call answers so for these numbers and texts; a text may be written as one, or as bytes, too."""
+        handed = [utf8(value) if isinstance(value, str) else value for value in values]
+        shown = [value if isinstance(value, int) else bytes(value[:80]) for value in handed]
+        self.assertEqual(self.ask(call, *handed), expected, shown)
 
-class RefusedPairs:
-    """What is refused of rules and a row that are handed in together, whatever is asked of them.
 
-    The class that takes this up says by `refuses(answer, rules_text, row_text)` what is asked. Where two refusals
-    hold, the first one is answered, and nothing stands behind it.
+class RefusedRules:
+    """What is refused of rules that are handed in with another text, which is one of RIGHT or refused itself.
+
+    The class that takes this up says by `refuses(answer, rules_text, other_text)` what is asked; the answer is told
+    with all that put has behind a refusal, of which other calls have nothing. Where two refusals hold, the first one
+    is answered.
     """
 
     FAULT = "+ x |\n"
@@ -77,10 +115,26 @@ class RefusedPairs:
     TOO_MUCH = "+ |\n" * 16385
 
     def test_rules_alone(self):
-        for row in ("", "a", "ab", "{+1}a{-1}"):
-            self.refuses([-5], self.FAULT, row)
-            self.refuses([-6], self.BEYOND, row)
-            self.refuses([-6], self.TOO_MUCH, row)
+        for text in self.RIGHT:
+            self.refuses([-5, 6, 2], self.FAULT, text)
+            self.refuses([-6], self.BEYOND, text)
+            self.refuses([-6], self.TOO_MUCH, text)
+            self.refuses([-6], "x" * 65537, text)
+            self.refuses([-5, 6, 0], "x" * 65536, text)
+
+    def test_each_bound_of_the_rules(self):
+        ranges = "%5" + "".join(f" {2 * low}-{2 * low}" for low in range(257)) + "\n"
+        item = '"' + "a" * 33 + '"'
+        for rules_text in (ranges, ranges + "+ %5 |\n", "+ " + ". " * 17 + "|\n", "+ |" + " ." * 17 + "\n",
+                           f"+ {item} |\n", f"+ | {item}*0-0\n", "+ |\n- |\n" * 128 + "+ |\n"):
+            for text in self.RIGHT:
+                self.refuses([-6], rules_text, text)
+
+
+class RefusedPairs(RefusedRules):
+    """What is refused of rules and a row, as above."""
+
+    RIGHT = ("", "a", "ab", "{+1}a{-1}")
 
     def test_rows_alone(self):
         for rules_text in ("", "+ |\n"):
@@ -122,12 +176,30 @@ class RefusedPairs:
             self.refuses([-5], rules_text, "{-1}" * 4096)
             self.refuses([-5], rules_text, "{+1}" + "a" * 4095)
 
-    def test_each_bound_of_the_rules(self):
-        ranges = "%5" + "".join(f" {2 * low}-{2 * low}" for low in range(257)) + "\n"
-        item = '"' + "a" * 33 + '"'
-        for rules_text in (ranges, ranges + "+ %5 |\n", "+ " + ". " * 17 + "|\n", "+ |" + " ." * 17 + "\n",
-                           f"+ {item} |\n", f"+ | {item}*0-0\n", "+ |\n- |\n" * 128 + "+ |\n"):
-            self.refuses([-6], rules_text, "ab")
+
+class RefusedDocuments(RefusedRules):
+    """What is refused of rules and a document, as above."""
+
+    RIGHT = ("", "|a\n", ">ab\n", ">{+1}a{-1}\n|{\n")
+
+    def test_documents_alone(self):
+        for rules_text in ("", "+ |\n"):
+            for document, place in FAULTY_DOCUMENTS:
+                self.refuses([-5, 7, place], rules_text, document)
+
+    def test_too_many_bytes_of_rules_before_the_document(self):
+        for document, place in FAULTY_DOCUMENTS:
+            self.refuses([-6], "x" * 65537, document)
+
+    def test_faults_of_the_rules_before_the_document(self):
+        for document, place in FAULTY_DOCUMENTS:
+            self.refuses([-5, 6, 2], self.FAULT, document)
+            self.refuses([-5, 6, 1285], self.BEYOND + "x", document)
+
+    def test_bounds_of_the_rules_before_the_document(self):
+        # Each text is gone through whole, in the order of the texts.
+        for document, place in FAULTY_DOCUMENTS:
+            self.refuses([-6], self.BEYOND, document)
 
 
 def copied(values, into):
@@ -251,6 +323,29 @@ def write_row(row):
     return "".join("{%s%d}" % piece if isinstance(piece, tuple) else piece.replace("{", "{{") for piece in row)
 
 
+def write_document(lines):
+    """A document's text; a raw line is a text, a paragraph a row for `write_row`."""
+    return "".join(("|" + line if isinstance(line, str) else ">" + write_row(line)) + "\n" for line in lines)
+
+
+PIECE = re.compile(r"\{\{|\{[^}]*\}|.", re.DOTALL)
+
+
+def pieces_of(row_text):
+    """The texts of a row's pieces."""
+    return PIECE.findall(row_text)
+
+
+def is_tag(piece):
+    """Whether it is a tag's text."""
+    return piece[0] == "{" and piece != "{{"
+
+
+def marked_parts(marked):
+    """Of a row in which each segment stands between < and >, the texts of glue, segment, glue, ... segment, glue."""
+    return re.split("[<>]", marked)
+
+
 def stands_for(atom, text, classes):
     """Whether the atom stands for the text."""
     if atom == ".":
@@ -355,3 +450,9 @@ def small_row(source):
         else:
             row.append(source.choice("aab.. {"))
     return row + [("-", number) for number in reversed(pile)]
+
+
+def small_document(source):
+    """A document for `write_document`."""
+    raw = ["", "a. b", "{+1}", "|", ">a", " {", "\u20ac"]
+    return [small_row(source) if source.random() < 0.7 else source.choice(raw) for turn in range(source.randint(0, 5))]

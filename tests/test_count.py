@@ -14,8 +14,7 @@ class CountCase(Asking):
     """Tests of count."""
 
     def check(self, expected, rules_text, row_text):
-        texts = [utf8(text) if isinstance(text, str) else list(text) for text in (rules_text, row_text)]
-        self.assertEqual(self.ask(count, *texts), expected, [bytes(text[:80]) for text in texts])
+        self.check_call(expected, count, rules_text, row_text)
 
     def check_rows(self, rules_text, table):
         """A table of rows and how many segments these rules make of each."""
@@ -358,7 +357,7 @@ class Bounds(CountCase):
 
 class Refusals(RefusedPairs, CountCase):
     def refuses(self, answer, rules_text, row_text):
-        self.check(answer, rules_text, row_text)
+        self.check(answer[:1], rules_text, row_text)
 
 
 class OneCallByItself(CountCase):
