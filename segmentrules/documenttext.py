@@ -1,7 +1,7 @@
 """Documents, and how they are read from their text."""
 
 from segmentrules.errors import Fault
-from segmentrules.reading import BAR, LINE_FEED, Reader
+from segmentrules.reading import BAR, Reader, line_end
 from segmentrules.rowtext import MOST_PIECES, is_paired, read_row
 
 RAW_SIGN = BAR
@@ -18,14 +18,6 @@ class Line:
     def __init__(self, text, row):
         self.text = text
         self.row = row
-
-
-def line_end(text, first):
-    """The place of the 0AH that ends the line which begins there; how many bytes there are if none does."""
-    behind = first
-    while behind < len(text) and text[behind] != LINE_FEED:
-        behind += 1
-    return behind
 
 
 def check_raw(text, first, behind):

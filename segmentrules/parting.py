@@ -64,6 +64,14 @@ def segments_by_line(lines, rule_set):
     return found
 
 
+def numbered(by_line):
+    """The segments of a document, of which those of each line are handed in; before each its line's number."""
+    found = []
+    for number, segments in enumerate(by_line):
+        found.extend([(number, segment) for segment in segments])
+    return found
+
+
 def glue_beside(segments, row):
     """The glue before, between and behind these segments of the row, in order."""
     found = []

@@ -58,6 +58,14 @@ def leads_to(number, least, most):
     return False
 
 
+def line_end(text, first):
+    """The place of the 0AH that ends the line which begins there; how many bytes there are if none does."""
+    behind = first
+    while behind < len(text) and text[behind] != LINE_FEED:
+        behind += 1
+    return behind
+
+
 class Reader:
     """Bytes, the place of the next one, and the place behind the last one that is to be taken.
 

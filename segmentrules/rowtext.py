@@ -68,22 +68,30 @@ def characters_of(row):
     return [number for kind, number in row.pieces if kind == CHARACTER]
 
 
-def is_paired(row):
-    """Whether the row's tags stand in pairs, each number once."""
+def halves(pieces):
+    """The left and the right halves of a row of these pieces, each in order; None if it is not straight."""
+    left = []
     pile = []
     seen = {}
-    for kind, number in row.pieces:
-        if kind == CLOSES:
-            if not pile or pile.pop() != number:
-                return False
+    for kind, number in pieces:
+        if kind == CLOSES and pile:
+            if pile.pop() != number:
+                return None
         elif kind != CHARACTER:
-            # A number that closes has come before as one that opens: asking here is enough.
+            # A number that comes again is right only as the close of the pile's top: that has been asked above.
             if number in seen:
-                return False
+                return None
             seen[number] = True
             if kind == OPENS:
                 pile.append(number)
-    return not pile
+            elif kind == CLOSES:
+                left.append(number)
+    return left, pile
+
+
+def is_paired(row):
+    """Whether the row is straight without halves."""
+    return halves(row.pieces) == ([], [])
 
 
 def checked_row(text):

@@ -5,14 +5,16 @@
 
 from segmentrules.cutting import deciding_rule
 from segmentrules.documenttext import MOST_DOCUMENT_BYTES, read_document
-from segmentrules.errors import Fault, Refusal, TooLarge
+from segmentrules.errors import NO_DOCUMENT, NO_RULES, Fault, FaultOfKind, Refusal, TooLarge, read_as
 from segmentrules.forms import of_earlier_form, words_in
-from segmentrules.parting import glue_beside, of_number, segments_by_line, segments_of
+from segmentrules.parting import glue_beside, numbered, of_number, segments_by_line, segments_of
 from segmentrules.rowtext import characters_of, checked_row
 from segmentrules.rulestext import checked_rules
+from segmentrules.targets import read_targets, target_document
 
 MOST_RULES_BYTES = 65536
 MOST_ROW_BYTES = 65536
+MOST_TARGETS_BYTES = 262144
 
 
 def check_size(text, most):
@@ -35,12 +37,18 @@ def row_and_segments(t, r):
     return row, segments_of([row], rule_set)[0]
 
 
-def rules_and_lines(t, d):
-    """The rules and the document's lines that have these texts; a Refusal as above."""
+def lines_and_segments(t, d):
+    """The document's lines that have the text d, and of each the segments that the rules t make; a Refusal as above."""
     check_size(t, MOST_RULES_BYTES)
     check_size(d, MOST_DOCUMENT_BYTES)
-    rule_set = checked_rules(t)
-    return rule_set, read_document(d)
+    rule_set = read_as(NO_RULES, lambda: checked_rules(t))
+    lines = read_as(NO_DOCUMENT, lambda: read_document(d))
+    return lines, segments_by_line(lines, rule_set)
+
+
+def document_segments(t, d):
+    """The segments that the rules t make of the document d, each behind its line's number; a Refusal as above."""
+    return numbered(lines_and_segments(t, d)[1])
 
 
 def counted(text):
@@ -102,11 +110,31 @@ def glue(k, t, r):
 def segs(t, d):
     """0, and of the document d's segments how many there are, and how many words, forms met before, and pieces."""
     try:
-        rule_set, lines = rules_and_lines(t, d)
+        found = [segment.pieces for line, segment in document_segments(t, d)]
     except Refusal as refusal:
         return [refusal.number]
-    found = []
-    for segments in segments_by_line(lines, rule_set):
-        found.extend([segment.pieces for segment in segments])
     words = sum([words_in(pieces) for pieces in found])
     return [0, len(found), words, of_earlier_form(found), sum([len(pieces) for pieces in found])]
+
+
+def nth(k, t, d):
+    """0, and of the document d's segment k its line, where it begins and ends there, how many bytes it has, they."""
+    try:
+        line, segment = of_number(k, document_segments(t, d))
+    except Refusal as refusal:
+        return [refusal.number]
+    return [0, line, segment.first, segment.behind] + counted(segment.text)
+
+
+def put(t, d, x):
+    """0, and how many bytes the target document has, and they; behind -5 stands which text has a fault, and where."""
+    try:
+        check_size(x, MOST_TARGETS_BYTES)
+        lines, by_line = lines_and_segments(t, d)
+        targets = read_targets(x, [segment for line, segment in numbered(by_line)])
+        text = target_document(lines, by_line, targets)
+    except FaultOfKind as fault:
+        return [fault.number, fault.kind, fault.place]
+    except Refusal as refusal:
+        return [refusal.number]
+    return [0] + counted(text)

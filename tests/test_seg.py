@@ -3,8 +3,8 @@
 import random
 import unittest
 
-from helper import (HIGHEST, Asking, RefusedPairs, full_text, is_tag, marked_parts, pieces_of, segments, small_row,
-                    small_rules, utf8, write_row, write_rules)
+from helper import (HIGHEST, Asking, RefusedPairs, all_answers, full_text, is_tag, marked_parts, pieces_of, segments,
+                    small_row, small_rules, utf8, write_row, write_rules)
 from segmentrules.segments import count, seg
 
 SENTENCES = '%0 65-90\n- "z." | " B."\n+ ".*?" |\n+ "." | " " %0\n+ "!" | " "\n'
@@ -291,22 +291,13 @@ class AgainstTheDefinition(SegCase):
 class Promised(SegCase):
     """What B2 promises of any rules and rows."""
 
-    def all_segments(self, rules_text, row_text):
-        """All answers but the one that there is no further segment."""
-        found = []
-        while True:
-            answer = seg(len(found), utf8(rules_text), utf8(row_text))
-            if answer == [-2]:
-                return found
-            found.append(answer)
-
     def test_put_together_it_is_the_paragraph(self):
         source = random.Random(20261123)
         for turn in range(200):
             rules_text, row_text = write_rules(*small_rules(source)), write_row(small_row(source))
             with self.subTest(rules=rules_text, row=row_text):
                 pieces = pieces_of(row_text)
-                found = self.all_segments(rules_text, row_text)
+                found = all_answers(seg, utf8(rules_text), utf8(row_text))
                 self.assertEqual(count(utf8(rules_text), utf8(row_text)), [len(found)])
                 last = 0
                 for answer in found:
